@@ -1,0 +1,1 @@
+"""A controller's numbers: reckoned exactly, put once."""

@@ -1,0 +1,26 @@
+"""The calls. Each gives back one list: a refusal's number alone, or 0 and the answer behind it."""
+
+from exactraws.codes import greatest_raw, is_format, least_raw
+from exactraws.names import NO_CODE, code_named, name_bytes
+
+WRONG_ARGUMENT = -1
+NOT_NAMED = -6
+
+
+def format_of(text):
+    c = code_named(text)
+    if c == NO_CODE:
+        return [NOT_NAMED]
+    return [0, c]
+
+
+def name(c):
+    if not is_format(c):
+        return [WRONG_ARGUMENT]
+    return [0] + name_bytes(c)
+
+
+def ends(c):
+    if not is_format(c):
+        return [WRONG_ARGUMENT]
+    return [0, least_raw(c), greatest_raw(c)]
