@@ -12,6 +12,9 @@ F64 = 212992
 WIDTHS = (8, 16, 32, 64)
 FRACTION_BITS = {32: 23, 64: 52}
 
+# No bit of a float lies below 2 to the power of minus this.
+LOWEST_PLACES = {32: 149, 64: 1074}
+
 
 def kind_of(c):
     return c // 65536

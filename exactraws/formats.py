@@ -2,6 +2,8 @@
 
 from exactraws.codes import greatest_raw, is_format, least_raw
 from exactraws.names import NO_CODE, code_named, name_bytes
+from exactraws.ratios import lowest
+from exactraws.raws import fits_width, handed, is_good, is_raw, worth_of
 
 WRONG_ARGUMENT = -1
 NOT_NAMED = -6
@@ -24,3 +26,22 @@ def ends(c):
     if not is_format(c):
         return [WRONG_ARGUMENT]
     return [0, least_raw(c), greatest_raw(c)]
+
+
+def good(c, r):
+    if not is_format(c):
+        return [WRONG_ARGUMENT]
+    return [0, 1 if is_good(c, r) else 0]
+
+
+def hand(c, bits):
+    if not (is_format(c) and fits_width(c, bits)):
+        return [WRONG_ARGUMENT]
+    return [0] + handed(c, bits)
+
+
+def worth(c, r):
+    if not is_raw(c, r):
+        return [WRONG_ARGUMENT]
+    x = lowest(worth_of(c, r))
+    return [0, x.top, x.bottom]
