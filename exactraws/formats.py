@@ -2,11 +2,17 @@
 
 from exactraws.codes import greatest_raw, is_format, least_raw
 from exactraws.names import NO_CODE, code_named, name_bytes
-from exactraws.ratios import lowest
+from exactraws.operations import is_operation, put_operation
+from exactraws.putting import may_put, put_ratio
+from exactraws.ratios import is_less, lowest
 from exactraws.raws import fits_width, handed, is_good, is_raw, worth_of
 
 WRONG_ARGUMENT = -1
 NOT_NAMED = -6
+
+LESS = 1
+SAME = 2
+MORE = 3
 
 
 def format_of(text):
@@ -45,3 +51,25 @@ def worth(c, r):
         return [WRONG_ARGUMENT]
     x = lowest(worth_of(c, r))
     return [0, x.top, x.bottom]
+
+
+def order(c, r, d, s):
+    if not (is_raw(c, r) and is_raw(d, s)):
+        return [WRONG_ARGUMENT]
+    x = worth_of(c, r)
+    y = worth_of(d, s)
+    if is_less(x, y):
+        return [0, LESS]
+    return [0, MORE if is_less(y, x) else SAME]
+
+
+def turn(c, r, f, how):
+    if not (is_raw(c, r) and may_put(f, how)):
+        return [WRONG_ARGUMENT]
+    return [0] + put_ratio(worth_of(c, r), f, how)
+
+
+def two(op, c, r, d, s, f, how):
+    if not (is_operation(op) and is_raw(c, r) and is_raw(d, s) and may_put(f, how)):
+        return [WRONG_ARGUMENT]
+    return [0] + put_operation(op, worth_of(c, r), worth_of(d, s), f, how)

@@ -22,3 +22,35 @@ def lowest(x):
     """The same in lowest terms."""
     divisor = common_divisor(abs(x.top), x.bottom)
     return Ratio(x.top // divisor, x.bottom // divisor)
+
+
+def plus(x, y):
+    # By what both have in common, sums of what raws are worth keep the bottom of the finest of them.
+    common = common_divisor(x.bottom, y.bottom)
+    bottom = x.bottom // common * y.bottom
+    return Ratio(x.top * (bottom // x.bottom) + y.top * (bottom // y.bottom), bottom)
+
+
+def minus(x, y):
+    return plus(x, Ratio(-y.top, y.bottom))
+
+
+def times(x, y):
+    return Ratio(x.top * y.top, x.bottom * y.bottom)
+
+
+def over(x, y):
+    """x divided by y, which is not 0."""
+    if y.top < 0:
+        return Ratio(-x.top * y.bottom, x.bottom * -y.top)
+    return Ratio(x.top * y.bottom, x.bottom * y.top)
+
+
+def is_less(x, y):
+    return x.top * y.bottom < y.top * x.bottom
+
+
+def whole_part(x):
+    """x's whole number toward 0."""
+    size = abs(x.top) // x.bottom
+    return Ratio(-size if x.top < 0 else size, 1)

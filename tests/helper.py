@@ -99,6 +99,120 @@ def good_raws_about(code):
     return [raw for raw in raws_about(code) if is_good(code, raw)]
 
 
+# Formats of each kind, of each width, with the point at either end and between.
+SOME_FORMATS = (
+    T, q(8, 0), q(8, 4), q(8, 8), u(8, 0), u(8, 5), u(8, 8), q(16, 8), u(16, 16), q(32, 0), q(32, 16), u(32, 31),
+    q(64, 0), q(64, 64), u(64, 0), u(64, 32), F32, F64,
+)
+ALL_HOWS = (0, 1, 2, 3, 4, 8, 9, 10, 11, 12)
+WRONG_HOWS = (-1, -4, -8, -16, -2147483648, 5, 6, 7, 13, 14, 15, 16, 17, 24, 32, 256, 2147483647, 10 ** 50, -(10 ** 50))
+
+
+def hows_of(code):
+    return ALL_HOWS[5:] if code in FLOATS else ALL_HOWS
+
+
+def wrong_hows_of(code):
+    return WRONG_HOWS + (ALL_HOWS[:5] if code in FLOATS else ())
+
+
+class Exactly:
+    """A rational that is to be put."""
+
+    def __init__(self, x):
+        self.x = Fraction(x)
+
+    def against(self, other):
+        """-1, 0 or 1, as this is less than the other, the same or more."""
+        return (self.x > other) - (self.x < other)
+
+    def floor_of_times(self, scale):
+        return math.floor(self.x * scale)
+
+
+class RootOf:
+    """The root of a rational not below 0."""
+
+    def __init__(self, x):
+        self.square = Fraction(x)
+
+    def against(self, other):
+        if other < 0:
+            return 1
+        return (self.square > other * other) - (self.square < other * other)
+
+    def floor_of_times(self, scale):
+        return math.isqrt(math.floor(self.square * scale * scale))
+
+
+def float_at(code, index):
+    """The float that stands this many places above 0 or, if that's below 0, below it; the place past the last is there, too."""
+    infinity = {F32: 0x7F800000, F64: 0x7FF0000000000000}[code]
+    if abs(index) == infinity:
+        size = Fraction(2 ** {F32: 128, F64: 1024}[code])
+    else:
+        size = value(code, abs(index))
+    return size if index >= 0 else -size
+
+
+def index_below(amount, code):
+    """The place of the greatest float not above the amount, which lies within the places there are."""
+    low, high = {F32: (-0x7F800000, 0x7F800000), F64: (-0x7FF0000000000000, 0x7FF0000000000000)}[code]
+    while high - low > 1:
+        middle = (low + high) // 2
+        if amount.against(float_at(code, middle)) >= 0:
+            low = middle
+        else:
+            high = middle
+    return low
+
+
+def choose(amount, mode, low, at):
+    """Which of low and low + 1 the amount is rounded to; at tells what a place is worth."""
+    if amount.against(at(low)) == 0 or mode == 3:
+        return low
+    if mode == 2:
+        return low + 1
+    if mode == 1:
+        return low if amount.against(0) > 0 else low + 1
+    side = amount.against((at(low) + at(low + 1)) / 2)
+    if side != 0:
+        return low if side < 0 else low + 1
+    if mode == 0:
+        return low if low % 2 == 0 else low + 1
+    return low + 1 if amount.against(0) > 0 else low
+
+
+def put_by_search(amount, code, how):
+    """Flags and raw of what is put, found by looking for the two neighbours of an amount."""
+    if code == T:
+        return [0, 0 if amount.against(0) == 0 else 1]
+    if code in FLOATS:
+        return put_float_by_search(amount, code, how % 8)
+    width, scale = width_of(code), 2 ** (code % 256)
+    least, greatest = (-(2 ** (width - 1)), 2 ** (width - 1) - 1) if code < 131072 else (0, 2 ** width - 1)
+    steps = choose(amount, how % 8, amount.floor_of_times(scale), lambda k: Fraction(k, scale))
+    flags = 0 if amount.against(Fraction(steps, scale)) == 0 else 1
+    if least <= steps <= greatest:
+        return [flags, steps % 2 ** width]
+    if how < 8:
+        return [flags + 4, steps % 2 ** width]
+    return [5, (least if steps < least else greatest) % 2 ** width]
+
+
+def put_float_by_search(amount, code, mode):
+    sign, infinity = 2 ** (width_of(code) - 1), {F32: 0x7F800000, F64: 0x7FF0000000000000}[code]
+    if amount.against(float_at(code, infinity)) >= 0:
+        return [5, infinity - 1]
+    if amount.against(float_at(code, -infinity)) <= 0:
+        return [5, sign + infinity - 1]
+    index = choose(amount, mode, index_below(amount, code), lambda place: float_at(code, place))
+    if abs(index) == infinity:
+        return [5, infinity - 1 if index > 0 else sign + infinity - 1]
+    flags = 0 if amount.against(float_at(code, index)) == 0 else 1
+    return [flags, index if index >= 0 else sign - index]
+
+
 def as_bytes(text):
     return list(text.encode("latin-1"))
 
