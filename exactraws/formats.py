@@ -4,11 +4,16 @@ from exactraws.codes import greatest_raw, is_format, least_raw
 from exactraws.names import NO_CODE, code_named, name_bytes
 from exactraws.operations import is_operation, put_operation
 from exactraws.putting import may_put, put_ratio
-from exactraws.ratios import is_less, lowest
+from exactraws.ratios import Ratio, is_less, lowest, power_of_ten
 from exactraws.raws import fits_width, handed, is_good, is_raw, worth_of
+from exactraws.roots import put_root
+from exactraws.sums import may_sum, weighted_sum
 
 WRONG_ARGUMENT = -1
 NOT_NAMED = -6
+
+# Numbers handed to put have at most this many digits.
+MOST_DIGITS = 700
 
 LESS = 1
 SAME = 2
@@ -73,3 +78,22 @@ def two(op, c, r, d, s, f, how):
     if not (is_operation(op) and is_raw(c, r) and is_raw(d, s) and may_put(f, how)):
         return [WRONG_ARGUMENT]
     return [0] + put_operation(op, worth_of(c, r), worth_of(d, s), f, how)
+
+
+def root(c, r, f, how):
+    if not (is_raw(c, r) and may_put(f, how)):
+        return [WRONG_ARGUMENT]
+    return [0] + put_root(worth_of(c, r), f, how)
+
+
+def put(a, b, f, how):
+    limit = power_of_ten(MOST_DIGITS)
+    if not (abs(a) < limit and 0 < b < limit and may_put(f, how)):
+        return [WRONG_ARGUMENT]
+    return [0] + put_ratio(Ratio(a, b), f, how)
+
+
+def sum_of(f, how, weights, numbers):
+    if not (may_put(f, how) and may_sum(weights, numbers)):
+        return [WRONG_ARGUMENT]
+    return [0] + put_ratio(weighted_sum(weights, numbers), f, how)

@@ -54,3 +54,14 @@ def whole_part(x):
     """x's whole number toward 0."""
     size = abs(x.top) // x.bottom
     return Ratio(-size if x.top < 0 else size, 1)
+
+
+def power_of_ten(exponent):
+    power = 1
+    square = 10
+    while exponent > 0:
+        if exponent % 2 == 1:
+            power *= square
+        square *= square
+        exponent //= 2
+    return power
