@@ -2,18 +2,23 @@
 
 from exactraws.codes import greatest_raw, is_format, least_raw
 from exactraws.names import NO_CODE, code_named, name_bytes
+from exactraws.numerals import NoNumber, read_number, written
 from exactraws.operations import is_operation, put_operation
 from exactraws.putting import may_put, put_ratio
 from exactraws.ratios import Ratio, is_less, lowest, power_of_ten
 from exactraws.raws import fits_width, handed, is_good, is_raw, worth_of
 from exactraws.roots import put_root
 from exactraws.sums import may_sum, weighted_sum
+from exactraws.tables import looked_up, may_look_up, rise, worths_of
 
 WRONG_ARGUMENT = -1
-NOT_NAMED = -6
+NO_SUCH_TEXT = -6
+NOT_FITTING = -9
 
 # Numbers handed to put have at most this many digits.
 MOST_DIGITS = 700
+
+MOST_BYTES = 64
 
 LESS = 1
 SAME = 2
@@ -23,7 +28,7 @@ MORE = 3
 def format_of(text):
     c = code_named(text)
     if c == NO_CODE:
-        return [NOT_NAMED]
+        return [NO_SUCH_TEXT]
     return [0, c]
 
 
@@ -97,3 +102,28 @@ def sum_of(f, how, weights, numbers):
     if not (may_put(f, how) and may_sum(weights, numbers)):
         return [WRONG_ARGUMENT]
     return [0] + put_ratio(weighted_sum(weights, numbers), f, how)
+
+
+def table(c, r, xc, yc, f, how, xs, ys):
+    if not (is_raw(c, r) and may_put(f, how) and may_look_up(xc, yc, xs, ys)):
+        return [WRONG_ARGUMENT]
+    places = worths_of(xc, xs)
+    if not rise(places):
+        return [NOT_FITTING]
+    return [0] + put_ratio(looked_up(worth_of(c, r), places, worths_of(yc, ys)), f, how)
+
+
+def read(f, how, text):
+    if not may_put(f, how) or len(text) > MOST_BYTES:
+        return [WRONG_ARGUMENT]
+    try:
+        x = read_number(text)
+    except NoNumber as fault:
+        return [NO_SUCH_TEXT, fault.place]
+    return [0] + put_ratio(x, f, how)
+
+
+def write(c, r):
+    if not is_raw(c, r):
+        return [WRONG_ARGUMENT]
+    return [0] + written(worth_of(c, r))

@@ -1,6 +1,7 @@
 """Formats' names as bytes, and the way back from a name to its code."""
 
 from exactraws.codes import FLOAT, TRUTH, is_format, kind_of, point_of, width_of
+from exactraws.digits import digits_from, number_of
 
 LETTERS = "tquf"
 
@@ -24,21 +25,6 @@ def name_text(c):
 
 def name_bytes(c):
     return [ord(sign) for sign in name_text(c)]
-
-
-def digits_from(text, start):
-    """The run of digits' bytes that begins at this place; it may be empty."""
-    stop = start
-    while stop < len(text) and 48 <= text[stop] <= 57:
-        stop += 1
-    return text[start:stop]
-
-
-def number_of(digits):
-    number = 0
-    for digit in digits:
-        number = number * 10 + digit - 48
-    return number
 
 
 def code_start(letter):

@@ -129,6 +129,13 @@ class Language(unittest.TestCase):
                     self.assertIsInstance(row.value.value, str, (entry, row.lineno))
             self.assertEqual(sorted(seen), sorted(set(seen)), entry)
 
+    def test_values_at_the_top_are_plain(self):
+        for entry, source in package_files().items():
+            for row in ast.parse(source).body:
+                if isinstance(row, ast.Assign):
+                    # literal_eval refuses names, calls and reckoning.
+                    ast.literal_eval(row.value)
+
     def test_methods_and_values_of_objects(self):
         own = set()
         for source in package_files().values():
