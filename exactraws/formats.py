@@ -1,6 +1,6 @@
 """The calls. Each gives back one list: a refusal's number alone, or 0 and the answer behind it."""
 
-from exactraws.codes import greatest_raw, is_format, least_raw
+from exactraws.codes import FLOAT, greatest_raw, is_format, kind_of, least_raw
 from exactraws.names import NO_CODE, code_named, name_bytes
 from exactraws.numerals import NoNumber, read_number, written
 from exactraws.operations import is_operation, put_operation
@@ -8,6 +8,7 @@ from exactraws.putting import may_put, put_ratio
 from exactraws.ratios import Ratio, is_less, lowest, power_of_ten
 from exactraws.raws import fits_width, handed, is_good, is_raw, worth_of
 from exactraws.roots import put_root
+from exactraws.shorts import short_text
 from exactraws.sums import may_sum, weighted_sum
 from exactraws.tables import looked_up, may_look_up, rise, worths_of
 
@@ -127,3 +128,11 @@ def write(c, r):
     if not is_raw(c, r):
         return [WRONG_ARGUMENT]
     return [0] + written(worth_of(c, r))
+
+
+def short(c, r):
+    if not is_raw(c, r):
+        return [WRONG_ARGUMENT]
+    if kind_of(c) != FLOAT:
+        return [NOT_FITTING]
+    return [0] + short_text(c, r)
