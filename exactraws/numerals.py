@@ -13,16 +13,14 @@ SLASH = 47
 LETTER_E = 101
 
 
+# The refusal of a text that is no number's; the place is that of its fault.
 class NoNumber(ValueError):
-    """The text is no number's; its fault is at this place."""
-
     def __init__(self, place):
         self.place = place
 
 
+# How far a text has been read, and for how many digits there still is room.
 class Scan:
-    """How far a text has been read, and how many digits there is room for."""
-
     def __init__(self, text):
         self.text = text
         self.place = 0

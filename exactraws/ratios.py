@@ -1,9 +1,8 @@
 """Quotients of whole numbers, exactly."""
 
 
+# The bottom is above 0, so that the top alone has the sign; the terms need not be the lowest.
 class Ratio:
-    """A quotient. Its bottom is above 0; its terms need not be the lowest."""
-
     def __init__(self, top, bottom):
         self.top = top
         self.bottom = bottom

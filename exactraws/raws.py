@@ -7,7 +7,7 @@ from exactraws.ratios import Ratio
 
 
 def fits_width(c, bits):
-    return 0 <= bits < 1 << width_of(c)
+    return 0 <= bits < (1 << width_of(c))
 
 
 def is_raw(c, r):
